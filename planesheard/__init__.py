@@ -1,0 +1,1 @@
+"""Aircraft told by their radio replies (Mode S, extended squitters)."""
