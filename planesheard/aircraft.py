@@ -7,6 +7,9 @@ from planesheard.places import place_near, place_out_of_halves
 OLDEST_HALF = 10000
 OLDEST_PLACE = 60000
 
+# What is told for a number that isn't known.
+UNKNOWN = -2147483648
+
 
 class Aircraft:
     """What is known of an aircraft; None stands for what isn't known."""
@@ -24,6 +27,14 @@ class Aircraft:
         self.place_heard = 0
         # The latest even half, then the latest odd one.
         self.halves = [None, None]
+
+    def numbers_at(self, now):
+        """The nine numbers that are told of it at this time."""
+        latitude = None if self.place is None else self.place.latitude
+        longitude = None if self.place is None else self.place.longitude
+        numbers = [self.address, self.height, latitude, longitude, self.east, self.north, self.climb, self.identity,
+                   now - self.heard]
+        return [UNKNOWN if number is None else number for number in numbers]
 
     def take_height(self, height):
         """Keeps a height, if one was said."""

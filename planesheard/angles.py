@@ -1,4 +1,4 @@
-"""Latitudes and longitudes, kept exactly, as parts of zones."""
+"""Latitudes and longitudes: reckoned exactly, as parts of zones, and told in ten-millionths of a degree."""
 
 # How many parts a zone has: 2 to the 17th.
 PARTS = 131072
@@ -39,10 +39,6 @@ class Angle:
         """The angle in ten-millionths of a degree, towards below."""
         return self.parts * CIRCLE_TOLD // self.circle()
 
-    def parts_of(self, zones):
-        """The angle in parts of so many zones, towards below."""
-        return self.parts * zones // self.zones
-
     def reaches(self, quarters):
         """Whether the angle is so many quarters of a circle or more."""
         return self.parts * 4 >= quarters * self.circle()
@@ -68,8 +64,8 @@ def zones_of_longitude(latitude):
 
 
 def nearest_angle(known, zones, within):
-    """Of the angles that stand at the part within of one of the zones, the nearest to a known angle."""
-    known_parts = known.parts_of(zones)
+    """Of the angles that stand at the part within of one of the zones, the nearest to a known one, as it was told."""
+    known_parts = known * zones * PARTS // CIRCLE_TOLD
     further = (within - known_parts) % PARTS
     if further > HALF_ZONE:
         further -= PARTS

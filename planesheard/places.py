@@ -17,7 +17,7 @@ class Half:
 
 
 class Place:
-    """A latitude and a longitude."""
+    """What is known of a place: its latitude and longitude as they are told, in ten-millionths of a degree."""
 
     def __init__(self, latitude, longitude):
         self.latitude = latitude
@@ -38,7 +38,8 @@ def place_out_of_halves(last, other):
         return None
     m = nearest_whole_zone(even.x * (k - 1) - odd.x * k)
     longitude = longitude_in_zone(m, zones_for_half(k, last), last.x)
-    return Place(odd_latitude if last.odd == 1 else even_latitude, longitude)
+    latitude = odd_latitude if last.odd == 1 else even_latitude
+    return Place(latitude.told(), longitude.told())
 
 
 def place_near(known, half):
@@ -48,7 +49,8 @@ def place_near(known, half):
     if beyond_a_pole(latitude):
         return None
     zones = zones_for_half(zones_of_longitude(latitude), half)
-    return Place(latitude, within_half_a_circle(nearest_angle(known.longitude, zones, half.x)))
+    longitude = within_half_a_circle(nearest_angle(known.longitude, zones, half.x))
+    return Place(latitude.told(), longitude.told())
 
 
 def nearest_whole_zone(parts):

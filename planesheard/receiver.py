@@ -1,4 +1,4 @@
-"""A receiver: the messages it takes, and who is known to it."""
+"""A receiver: the messages it takes, who is known to it, and what it tells of them."""
 
 from planesheard.aircraft import Aircraft
 from planesheard.bits import bits_between, number_of_bytes, rest_of, with_one_bit_turned
@@ -8,6 +8,15 @@ from planesheard.codes import height_of, identity_of
 NEW = 0
 MESSAGE = 1
 COUNT = 2
+FIND = 3
+AT = 4
+NAME = 5
+CALLS_WITH_ONE_NUMBER = (3, 4, 5)
+
+# What a call for one aircraft is answered with.
+TOLD = 0
+NOBODY = -1
+NO_NAME = -2
 
 # What a message is answered with.
 TAKEN = 0
@@ -69,9 +78,10 @@ class Receiver:
 
     def take_reply(self, message, length, layout):
         """Takes a message whose rest is its address, if that is known."""
-        aircraft = self.aircraft_at(rest_of(message, length))
-        if aircraft is None:
+        spot = self.spot_of(rest_of(message, length))
+        if spot == NOBODY:
             return NOT_KNOWN
+        aircraft = self.known[spot]
         self.hear(aircraft)
         code = bits_between(message, length, 20, 32)
         if layout in HEIGHT_FORMATS:
@@ -97,17 +107,17 @@ class Receiver:
             aircraft.take_extended(bits_between(message, length, 33, 88), self.now)
         return answer
 
-    def aircraft_at(self, address):
-        """The aircraft with this address; None if it isn't known."""
-        for aircraft in self.known:
+    def spot_of(self, address):
+        """Which of the known has this address, from 0 on; NOBODY if none has."""
+        for spot, aircraft in enumerate(self.known):
             if aircraft.address == address:
-                return aircraft
-        return None
+                return spot
+        return NOBODY
 
     def known_or_new(self, address):
         """The aircraft with this address, a new one if it isn't known."""
-        aircraft = self.aircraft_at(address)
-        return Aircraft(address) if aircraft is None else aircraft
+        spot = self.spot_of(address)
+        return Aircraft(address) if spot == NOBODY else self.known[spot]
 
     def hear(self, aircraft):
         """Puts an aircraft first, as heard of now; if they are too many, the last is forgotten."""
@@ -119,12 +129,25 @@ class Receiver:
         """How many aircraft are known."""
         return len(self.known)
 
+    def tell_numbers(self, i):
+        """The answer with the nine numbers of the i-th of the known."""
+        if i >= len(self.known):
+            return [NOBODY]
+        return [TOLD] + self.known[i].numbers_at(self.now)
+
+    def tell_name(self, i):
+        """The answer with the name of the i-th of the known."""
+        if i >= len(self.known):
+            return [NOBODY]
+        name = self.known[i].name
+        return [NO_NAME] if name is None else [TOLD] + name
+
 
 def size_of_call(calls, spot):
     """How many numbers the call that begins at this spot has."""
     if calls[spot] == MESSAGE:
         return 4 + calls[spot + 3]
-    return 1
+    return 2 if calls[spot] in CALLS_WITH_ONE_NUMBER else 1
 
 
 def answer_of(receiver, call):
@@ -137,6 +160,12 @@ def answer_of(receiver, call):
         return [receiver.take_message(call[1], call[2], call[4:])]
     if number == COUNT:
         return [receiver.how_many()]
+    if number == FIND:
+        return [receiver.spot_of(call[1])]
+    if number == AT:
+        return receiver.tell_numbers(call[1])
+    if number == NAME:
+        return receiver.tell_name(call[1])
     raise UnknownCall(f"no call has the number {number}")
 
 

@@ -90,11 +90,41 @@ def count():
     return [2]
 
 
-def asked(*calls):
-    """The first number of each answer, where each answer has just one."""
+def find(address):
+    return [3, address]
+
+
+def at(i):
+    return [4, i]
+
+
+def name(i):
+    return [5, i]
+
+
+def answered(*calls):
+    """The answers, each as a list of its own."""
     given = answers([number for call in calls for number in call])
-    assert given[0::2] == [1] * len(calls)
-    return given[1::2]
+    apart = []
+    while given:
+        size = given[0]
+        assert 1 <= size <= len(given) - 1
+        apart.append(given[1:size + 1])
+        given = given[size + 1:]
+    assert len(apart) == len(calls)
+    return apart
+
+
+def asked(*calls):
+    """The one number of each answer, where each answer has just one."""
+    apart = answered(*calls)
+    assert [len(one) for one in apart] == [1] * len(calls)
+    return [one[0] for one in apart]
+
+
+def text(row):
+    """The bytes of a name as a text."""
+    return None if row is None else "".join(map(chr, row))
 
 
 def hearing(*heard):
@@ -113,7 +143,7 @@ def told(place):
     """What a place is told as: its two numbers."""
     if place is None:
         return None
-    return (place.latitude.told(), place.longitude.told())
+    return (place.latitude, place.longitude)
 
 
 # Places in fractions of degrees, as the document's words say them.
@@ -158,11 +188,11 @@ def nearest_degrees(known, zones, within):
 
 
 def degrees_near(known, half, odd):
-    """(latitude, longitude) of a half (y, x) near a known one; None: no place."""
-    latitude = nearest_degrees(known[0], 60 - odd, half[0])
+    """(latitude, longitude) of a half (y, x) near a known place, which is as it's told; None: no place."""
+    latitude = nearest_degrees(Fraction(known[0], 10 ** 7), 60 - odd, half[0])
     if abs(latitude) > 90:
         return None
-    longitude = nearest_degrees(known[1], max(1, zones_at(latitude) - odd), half[1])
+    longitude = nearest_degrees(Fraction(known[1], 10 ** 7), max(1, zones_at(latitude) - odd), half[1])
     if longitude < -180:
         longitude += 360
     elif longitude >= 180:

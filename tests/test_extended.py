@@ -2,7 +2,7 @@
 
 import unittest
 
-from tests.helper import fields, from_hex, half_fields, hearing, name_fields, speed_fields, squitter, told
+from tests.helper import fields, from_hex, half_fields, hearing, name_fields, speed_fields, squitter, text, told
 
 KEPT = ("name", "height", "identity", "east", "north", "climb", "place", "halves")
 
@@ -11,10 +11,6 @@ def said(*extended):
     """What is known of an aircraft that sent these, one behind another."""
     aircraft = hearing(*[(0, squitter(9, one)) for one in extended]).known[0]
     return {kept: getattr(aircraft, kept) for kept in KEPT}
-
-
-def text(name):
-    return None if name is None else "".join(map(chr, name))
 
 
 NOTHING = {"name": None, "height": None, "identity": None, "east": None, "north": None, "climb": None,
@@ -141,8 +137,9 @@ class Speeds(unittest.TestCase):
     def test_other_bits_do_not_matter(self):
         others = fields(0, (9, 13, 31), (36, 36, 1), (47, 56, 1023))
         for low in (1, 2):
-            speeds = speed_fields(low, (0, 10), (1, 20), (0, 30))
-            self.assertEqual(said(speeds | others), said(speeds))
+            for sign in (0, 1):
+                speeds = speed_fields(low, (sign, 10), (1 - sign, 20), (sign, 30))
+                self.assertEqual(said(speeds | others), said(speeds))
 
     def test_1_is_a_speed_of_0(self):
         known = said(speed_fields(2, (1, 1), (0, 1), (1, 1)))

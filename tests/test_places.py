@@ -9,7 +9,7 @@ from planesheard.angles import EDGES, Angle, beyond_a_pole, nearest_angle, zones
 from planesheard.places import Half, Place, place_near, place_out_of_halves
 from tests.helper import EDGES as DOCUMENT_EDGES
 from tests.helper import PART, degrees_from_both, degrees_near, from_hex, half_at, half_fields, hearing
-from tests.helper import squitter, told, told_degrees
+from tests.helper import squitter, told, told_degrees, zones_at
 
 # Latitudes and longitudes all over the world: below 0, near the poles, near 180 degrees, near zones' borders.
 LATITUDES = ("0", "0.00001", "-0.00001", "5.99", "-6.01", "10.4", "-10.5", "33.3333333", "-45.00123", "52.2572",
@@ -29,14 +29,9 @@ def near(known, half, odd):
     return told(place_near(known, Half(odd, half[0], half[1], 0)))
 
 
-def degrees_of(place):
-    return tuple(Fraction(360 * angle.parts, angle.zones * PART) for angle in (place.latitude, place.longitude))
-
-
 def place_at(latitude, longitude):
-    """A known place at whole parts of even zones of latitude and of 59 zones of longitude."""
-    return Place(Angle(math.floor(Fraction(latitude) * 60 * PART / 360), 60),
-                 Angle(math.floor(Fraction(longitude) * 59 * PART / 360), 59))
+    """A known place at these degrees."""
+    return Place(math.floor(Fraction(latitude) * 10 ** 7), math.floor(Fraction(longitude) * 10 ** 7))
 
 
 class ZonesOfLongitude(unittest.TestCase):
@@ -93,19 +88,19 @@ class Angles(unittest.TestCase):
 
     def test_nearest(self):
         half = PART // 2
-        for parts in (0, 5, -5, 7 * PART + 100, -7 * PART - 100):
-            known = Angle(parts, 60)
+        # 234375 ten-millionths of a degree are just 512 parts of 60 zones.
+        for times in (0, 1, -1, 1793, -1793):
+            known, parts = 234375 * times, 512 * times
             for apart in (0, 1, -1, half - 1, half, 1 - half):
                 self.assertEqual(nearest_angle(known, 60, (parts + apart) % PART).parts, parts + apart)
             self.assertEqual(nearest_angle(known, 60, (parts - half) % PART).parts, parts + half)
 
     def test_the_known_is_first_told_in_parts_towards_below(self):
-        # 59/60 of a part is told as 0 parts, -59/60 as -1: what is half a zone apart from that goes up.
+        # A part of 60 zones is 457.7 ten-millionths: 457 are 0 parts, -1 is -1; half a zone from that goes up.
         half = PART // 2
-        self.assertEqual(nearest_angle(Angle(1, 60), 59, half).parts, half)
-        self.assertEqual(nearest_angle(Angle(1, 60), 59, half + 1).parts, half + 1 - PART)
-        self.assertEqual(nearest_angle(Angle(-1, 60), 59, half - 1).parts, half - 1)
-        self.assertEqual(nearest_angle(Angle(-1, 60), 59, half).parts, half - PART)
+        for known, parts in ((0, 0), (457, 0), (458, 1), (-1, -1), (-457, -1), (-458, -2)):
+            self.assertEqual(nearest_angle(known, 60, parts + half).parts, parts + half)
+            self.assertEqual(nearest_angle(known, 60, parts + half + 1).parts, parts + half + 1 - PART)
 
 
 class OutOfTwoHalves(unittest.TestCase):
@@ -211,50 +206,49 @@ class NearAKnownPlace(unittest.TestCase):
                     there = Fraction(latitude) + Fraction(step), Fraction(longitude) + Fraction(step)
                     for odd in (0, 1):
                         half = half_at(max(-90, min(90, there[0])), there[1], odd)
-                        wanted = told_degrees(degrees_near(degrees_of(known), half, odd))
+                        wanted = told_degrees(degrees_near(told(known), half, odd))
                         self.assertEqual(near(known, half, odd), wanted)
 
     def test_any_half(self):
         draw = random.Random(23)
         none = 0
         for turn in range(2000):
-            zones = draw.randrange(1, 60)
-            known = Place(Angle(draw.randrange(-59 * PART // 4, 59 * PART // 4), draw.choice((59, 60))),
-                          Angle(draw.randrange(-zones * PART // 2, zones * PART // 2), zones))
+            known = Place(draw.randrange(-9 * 10 ** 8, 9 * 10 ** 8 + 1), draw.randrange(-18 * 10 ** 8, 18 * 10 ** 8))
             half = (draw.randrange(PART), draw.randrange(PART))
             for odd in (0, 1):
-                wanted = told_degrees(degrees_near(degrees_of(known), half, odd))
+                wanted = told_degrees(degrees_near(told(known), half, odd))
                 none += wanted is None
                 self.assertEqual(near(known, half, odd), wanted)
         self.assertGreater(none, 10)
 
     def test_of_two_the_upper_one(self):
-        known = Place(Angle(1000, 60), Angle(-2000, 59))
-        half = (1000 + PART // 2, PART // 2 - 2000)
+        # Just 512 parts of 60 zones to the north, and 14399.9.. parts of 59 zones to the west: told as 14400.
+        known = Place(234375, -6703522)
+        half = (512 + PART // 2, PART // 2 - 14400)
         self.assertEqual(near(known, half, 0), (Angle(half[0], 60).told(), Angle(half[1], 59).told()))
-        half = (1000 + PART // 2 + 1, PART // 2 - 2000 + 1)
+        half = (512 + PART // 2 + 1, PART // 2 - 14400 + 1)
         self.assertEqual(near(known, half, 0), (Angle(half[0] - PART, 60).told(), Angle(half[1] - PART, 59).told()))
 
     def test_none_beyond_the_poles(self):
         for sign in (1, -1):
-            known = Place(Angle(sign * 15 * PART, 60), Angle(0, 1))
+            known = place_at(sign * 90, 0)
             self.assertEqual(near(known, (0, 0), 0), (sign * 900000000, 0))
             self.assertIsNone(near(known, (sign % PART, 0), 0))
             self.assertIsNone(near(known, (sign * (59 * PART // 4 + 1) % PART, 0), 1))
 
     def test_zones_of_longitude_are_those_of_the_half(self):
         # The known stands just below 87 degrees, with 2 zones, the half at 87, with 1.
-        known = Place(Angle(14 * PART + PART // 2 - 1, 60), Angle(PART // 2, 2))
+        known = place_at("86.9999542", 90)
         self.assertEqual(near(known, (PART // 2, PART // 2), 0), (870000000, -1800000000))
         self.assertEqual(near(known, (PART // 2 - 1, PART // 2), 0), (869999542, 900000000))
 
     def test_one_zone_at_least(self):
-        known = Place(Angle(15 * PART, 60), Angle(0, 1))
+        known = place_at(90, 0)
         self.assertEqual(near(known, (3 * PART // 4, 100), 1), (900000000, Angle(100, 1).told()))
 
     def test_across_180_degrees(self):
-        east = Place(Angle(0, 60), Angle(59 * PART // 2 - 10, 59))
-        west = Place(Angle(0, 60), Angle(-59 * PART // 2 + 10, 59))
+        east = place_at(0, "179.9995")
+        west = place_at(0, "-179.9995")
         half = PART // 2
         self.assertEqual(near(east, (0, half - 1), 0), (0, Angle(59 * half - 1, 59).told()))
         self.assertEqual(near(east, (0, half), 0), (0, -1800000000))
@@ -331,8 +325,8 @@ class WhenHeard(unittest.TestCase):
         # An even half north of 87 degrees and an odd one south of it: the zones of longitude differ.
         even_y, odd_y = PART // 2, 87 * 59 * PART // 360 % PART
         rows = (0, 0, (even_y, 5)), (0, 1, (odd_y + 1, 5))
-        known = degrees_from_both((even_y, 5), (odd_y + 1, 5), 1)
-        self.assertEqual(self.heard(*rows), told_degrees(known))
+        known = told_degrees(degrees_from_both((even_y, 5), (odd_y + 1, 5), 1))
+        self.assertEqual(self.heard(*rows), known)
         self.assertEqual(self.heard(*rows, (1, 1, (odd_y, 6))), told_degrees(degrees_near(known, (odd_y, 6), 1)))
         self.assertIsNone(self.heard((0, 0, (even_y, 5)), (0, 1, (odd_y, 5))))
 
@@ -353,12 +347,25 @@ class WhenHeard(unittest.TestCase):
         self.near("48.1", "11.5", self.heard(*rows))
         self.near("-30", "100", self.heard(*rows, (80000, 1, away[1])))
 
-    def test_the_known_place_is_not_rounded(self):
-        # Half a zone above the exact parts of the known one: of the two the upper.
+    def test_the_known_place_is_the_one_that_is_told(self):
+        # The told latitude is a bit below its half's y: what lies half a zone away is nearer below, a part less above.
         last = degrees_from_both(self.even, self.odd, 0)
         parts = int(last[0] * 60 * PART / 360)
-        rows = (0, 1, self.odd), (0, 0, self.even), (20000, 0, ((self.even[0] + PART // 2) % PART, self.even[1]))
-        self.assertEqual(self.heard(*rows)[0], (parts + PART // 2) * 3600000000 // (60 * PART))
+        self.assertLess(told_degrees(last)[0], last[0] * 10 ** 7)
+        rows = (0, 1, self.odd), (0, 0, self.even)
+        for away, wanted in ((PART // 2, parts - PART // 2), (PART // 2 - 1, parts + PART // 2 - 1)):
+            third = (self.even[0] + away) % PART, self.even[1]
+            self.assertEqual(self.heard(*rows, (20000, 0, third))[0], Angle(wanted, 60).told())
+
+    def test_the_known_longitude_is_the_one_that_is_told(self):
+        last = degrees_from_both(self.even, self.odd, 1)
+        zones = zones_at(last[0]) - 1
+        parts = int(last[1] * zones * PART / 360)
+        self.assertLess(told_degrees(last)[1], last[1] * 10 ** 7)
+        rows = (0, 0, self.even), (0, 1, self.odd)
+        for away, wanted in ((PART // 2, parts - PART // 2), (PART // 2 - 1, parts + PART // 2 - 1)):
+            third = self.odd[0], (self.odd[1] + away) % PART
+            self.assertEqual(self.heard(*rows, (20000, 1, third))[1], Angle(wanted, zones).told())
 
 
 if __name__ == "__main__":
